@@ -1,0 +1,1 @@
+"""Dimcellar: bottles laid down and drunk in their years."""

@@ -1,0 +1,30 @@
+"""What a thing must be, whatever is handed in: whole numbers, months and words."""
+
+
+def is_whole(thing):
+    """A truth is an int to Python, but no whole number."""
+    return isinstance(thing, int) and not isinstance(thing, bool)
+
+
+def is_within(thing, least, most):
+    return is_whole(thing) and least <= thing <= most
+
+
+def is_month(thing):
+    return is_within(thing, 0, 999)
+
+
+def is_word(thing, least, most):
+    """Is it a text of so many small letters?"""
+    if not isinstance(thing, str) or not least <= len(thing) <= most:
+        return False
+    return all(["a" <= sign <= "z" for sign in thing])
+
+
+def is_rising(thing, least, most):
+    """Is it a rising tuple of so many whole numbers?"""
+    if not isinstance(thing, tuple) or not least <= len(thing) <= most:
+        return False
+    if not all([is_whole(number) for number in thing]):
+        return False
+    return all([thing[at - 1] < thing[at] for at in range(1, len(thing))])
