@@ -65,6 +65,13 @@ class Plainly(Looked):
         told, wanted = told_now(cellar, plain.rooms), plain.told()
         self.assert_same(told, wanted)
 
+    def changed_for_its_twin(self, cellar):
+        """What is done to the elder cellar from now on must not be seen in the twin."""
+        twin = cellar.twin()
+        if outcome(cellar.undo)[0] != "told":
+            cellar.lay(Bottle("zoe", 1900))
+        return twin
+
     def run_deeds(self, seed, rooms, hold, many):
         chance = random.Random(seed)
         cellar, plain = Cellar(rooms, hold), PlainCellar(rooms, hold)
@@ -74,8 +81,7 @@ class Plainly(Looked):
             self.assert_same(done(cellar, name, given), wanted)
             self.assert_alike(cellar, plain)
             if at % 10 == 0:
-                elder, cellar = cellar, cellar.twin()
-                elder.undo() if plain.done else elder.lay(Bottle("zoe", 1900))
+                cellar = self.changed_for_its_twin(cellar)
         while plain.done:
             plain.undo()
             cellar.undo()
