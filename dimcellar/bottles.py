@@ -1,6 +1,6 @@
 """Bottles, and lists of them."""
 
-from dimcellar.checks import is_whole, is_within, is_word
+from dimcellar.checks import is_maker, is_whole, is_year
 from dimcellar.errors import NoBottle, NoBottles, NoMaker, NoSize, NoYear
 
 SIZES = (37, 75, 150)
@@ -11,9 +11,9 @@ class Bottle:
     """A bottle of a maker, a year and a size, which stay as they are."""
 
     def __init__(self, maker, year, size=USUAL_SIZE):
-        if not is_word(maker, 1, 8):
+        if not is_maker(maker):
             raise NoMaker()
-        if not is_within(year, 1900, 2100):
+        if not is_year(year):
             raise NoYear()
         if not is_whole(size) or size not in SIZES:
             raise NoSize()

@@ -29,7 +29,7 @@ class Cellar:
         self._past = []
 
     def __len__(self):
-        return len(self._lying())
+        return len(self.lying())
 
     def __eq__(self, other):
         return (isinstance(other, Cellar) and self._rooms == other._rooms
@@ -163,6 +163,10 @@ class Cellar:
             room for room in range(len(self._rooms))
             if any([number in like for row in self._shelves[room] for number in row])]
 
+    def lying(self):
+        """The numbers of all bottles that lie there, rising."""
+        return [number for number in range(len(self._fates)) if self._fates[number] is None]
+
     def twin(self):
         """Another cellar that is equal, with the same deeds that can be undone."""
         other = Cellar(self._rooms, self._hold)
@@ -177,11 +181,8 @@ class Cellar:
         """Keep what is there for undoing the deed that is about to be done."""
         self._past.append(self._now())
 
-    def _lying(self):
-        return [number for number in range(len(self._fates)) if self._fates[number] is None]
-
     def _like(self, bottle):
-        return [number for number in self._lying() if self._bottles[number] == bottle]
+        return [number for number in self.lying() if self._bottles[number] == bottle]
 
     def _check_place(self, room, shelf):
         if not is_within(room, 0, len(self._rooms) - 1):

@@ -1,4 +1,6 @@
-"""What a thing must be, whatever is handed in: whole numbers, months and words."""
+"""What a thing must be, whatever is handed in: whole numbers, months, years, words and makers."""
+
+MONTHS = 1000
 
 
 def is_whole(thing):
@@ -11,7 +13,11 @@ def is_within(thing, least, most):
 
 
 def is_month(thing):
-    return is_within(thing, 0, 999)
+    return is_within(thing, 0, MONTHS - 1)
+
+
+def is_year(thing):
+    return is_within(thing, 1900, 2100)
 
 
 def is_word(thing, least, most):
@@ -19,6 +25,10 @@ def is_word(thing, least, most):
     if not isinstance(thing, str) or not least <= len(thing) <= most:
         return False
     return all(["a" <= sign <= "z" for sign in thing])
+
+
+def is_maker(thing):
+    return is_word(thing, 1, 8)
 
 
 def is_rising(thing, least, most):

@@ -8,7 +8,8 @@ from dimcellar.errors import CellarError, HereError, NoDeed, NoNumber
 # More than any test does ahead of undoing all of them.
 MOST_DEEDS = 1000
 FIELDS = {
-    "TooMany": ("many", "most"), "Full": ("room", "shelf"), "Gone": ("number", "fate"), "Kept": ("number", "others")}
+    "TooMany": ("many", "most"), "Crowded": ("first", "last", "many"),
+    "Full": ("room", "shelf"), "Gone": ("number", "fate"), "Kept": ("number", "others")}
 
 
 def deep(depth, make):
@@ -27,6 +28,9 @@ def anything():
         [], [0], [1], [0, 0], [None], ["a"], [[]], [1, 2, 3, 4],
         (), (0,), (1,), (0, 0), (0, 1), (1, 1), (True,), (None,), ("a",), ((),), (0, 1, 2), (1, 2, 3, 4),
         {}, {0: 0}, {"a": 1999}, {(0, 0): [0]},
+        {0: (0, 1)}, {0: [0, 1]}, {True: (0, 1)}, {1: (False, 1)}, {40: (0, 1)}, {0: (1, 0)}, {0: (0, 0, 0)},
+        ("ann", "bea"), ("ann", "ann"), [("ann", "bea")], [("ann", "ann")], [("ann",)], [["ann", "bea"]],
+        ("ann", 1999, 2000), [("ann", 1999, 2000)], [(None, 1999, 1999)], [("ann", 2000, 1999)], [("", 1999, 2000)],
         Bottle("ann", 1999), [Bottle("ann", 1999)], (Bottle("ann", 1999),), {0: Bottle("ann", 1999)},
         deep(59, lambda thing: [thing]), deep(59, lambda thing: (thing,)), deep(59, lambda thing: {0: thing}),
         [0] * 9999, tuple(range(9999)), {number: number for number in range(4999)},
@@ -43,6 +47,18 @@ def is_number(thing, least, most):
 
 def is_month(thing):
     return is_number(thing, 0, 999)
+
+
+def is_span(thing):
+    return type(thing) is tuple and len(thing) == 2 and all(map(is_month, thing)) and thing[0] <= thing[1]
+
+
+def is_year(thing):
+    return is_number(thing, 1900, 2100)
+
+
+def is_maker(thing):
+    return type(thing) is str and 1 <= len(thing) <= 8 and thing.isascii() and thing.isalpha() and thing.islower()
 
 
 def is_who(thing):
