@@ -15,7 +15,7 @@ class Bottle:
             raise NoMaker()
         if not is_year(year):
             raise NoYear()
-        if not is_whole(size) or size not in SIZES:
+        if not is_size(size):
             raise NoSize()
         self.maker = maker
         self.year = year
@@ -37,6 +37,10 @@ class Bottle:
         if not isinstance(other, Bottle):
             raise NoBottle()
         return age_of(self) < age_of(other)
+
+
+def is_size(thing):
+    return is_whole(thing) and thing in SIZES
 
 
 def age_of(bottle):

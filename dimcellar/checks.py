@@ -1,6 +1,8 @@
 """What a thing must be, whatever is handed in: whole numbers, months, years, words and makers."""
 
 MONTHS = 1000
+MOST_NUMBER = 39
+MOST_FIGURES = 40
 
 
 def is_whole(thing):
@@ -10,6 +12,11 @@ def is_whole(thing):
 
 def is_within(thing, least, most):
     return is_whole(thing) and least <= thing <= most
+
+
+def is_number(thing):
+    """Could it be a bottle's number, in whatever cellar?"""
+    return is_within(thing, 0, MOST_NUMBER)
 
 
 def is_month(thing):
@@ -38,3 +45,12 @@ def is_rising(thing, least, most):
     if not all([is_whole(number) for number in thing]):
         return False
     return all([thing[at - 1] < thing[at] for at in range(1, len(thing))])
+
+
+def whole_in(word):
+    """The whole number that a text tells in figures without a nought ahead, None where it tells none."""
+    if not 1 <= len(word) <= MOST_FIGURES or not all(["0" <= sign <= "9" for sign in word]):
+        return None
+    if word[0] == "0" and word != "0":
+        return None
+    return int(word)

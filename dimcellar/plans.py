@@ -1,9 +1,8 @@
 """Plans: a month for each bottle within its span, only so many in a month."""
 
-from dimcellar.checks import MONTHS, is_month, is_whole, is_within
+from dimcellar.checks import MONTHS, MOST_NUMBER, is_month, is_number, is_whole, is_within
 from dimcellar.errors import Crowded, NoMonth, NoNumber, NoRate, NoSpan, NoSpans, TooMany
 
-MOST_NUMBER = 39
 MOST_SPANS = 12
 
 
@@ -52,7 +51,7 @@ class Plan:
 
     def put(self, number, span):
         """Another plan, with a span put anew or a number more."""
-        if not _is_number(number):
+        if not is_number(number):
             raise NoNumber()
         if not _is_span(span):
             raise NoSpan()
@@ -104,11 +103,7 @@ def _check_spans_and_rate(spans, rate):
 def _are_spans(thing):
     if not isinstance(thing, dict) or len(thing) > MOST_SPANS:
         return False
-    return all([_is_number(number) and _is_span(thing[number]) for number in thing])
-
-
-def _is_number(thing):
-    return is_within(thing, 0, MOST_NUMBER)
+    return all([is_number(number) and _is_span(thing[number]) for number in thing])
 
 
 def _is_span(thing):

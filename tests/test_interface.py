@@ -10,6 +10,8 @@ FUNCTIONS = {
     "plans": {"crowd": "spans, rate=1", "is_crowd": "spans, thing, rate=1"},
     "evenings": {"evening": "cellar, wishes, twins=False"},
     "notes": {"turns_of": "notes, order", "nearest": "notes", "floor_of": "notes"},
+    "lost": {"how_many": "known, lost, hints", "settled": "known, lost, hints"},
+    "lines": {"written": "bottles", "read": "text, size=75"},
 }
 CLASSES = {
     "bottles": {"Bottle": {
@@ -24,6 +26,7 @@ CLASSES = {
     "plans": {"Plan": {
         "__init__": "spans, rate=1", "__len__": "", "__eq__": "other", "__str__": "", "month": "number",
         "drunk_in": "month", "holds": "thing", "put": "number, span", "turned": "other"}},
+    "desk": {"Desk": {"__init__": "rooms, hold=6", "say": "line"}},
 }
 
 
