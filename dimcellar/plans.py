@@ -1,6 +1,8 @@
 """Plans: a month for each bottle within its span, only so many in a month."""
 
-from dimcellar.checks import MONTHS, MOST_NUMBER, is_month, is_number, is_whole, is_within
+from heapq import heappop, heappush
+
+from dimcellar.checks import MOST_NUMBER, is_month, is_number, is_whole, is_within
 from dimcellar.errors import Crowded, NoMonth, NoNumber, NoRate, NoSpan, NoSpans, TooMany
 
 MOST_SPANS = 12
@@ -11,13 +13,13 @@ class Plan:
 
     def __init__(self, spans, rate=1):
         _check_spans_and_rate(spans, rate)
-        crowded = _least_crowd(spans, rate)
-        if crowded is not None:
-            first, last, many = crowded
+        months = _planned(spans, rate)
+        if months is None:
+            first, last, many = _least_crowd(spans, rate)
             raise Crowded(first, last, many)
         self._spans = {number: spans[number] for number in spans}
         self._rate = rate
-        self._months = _planned(spans, rate)
+        self._months = months
 
     def __len__(self):
         return len(self._months)
@@ -84,6 +86,8 @@ def crowd(spans, rate=1):
     None where there is a plan.
     """
     _check_spans_and_rate(spans, rate)
+    if _planned(spans, rate) is not None:
+        return None
     return _least_crowd(spans, rate)
 
 
@@ -115,31 +119,47 @@ def _is_span(thing):
 
 
 def _planned(spans, rate):
-    """The month of each number, as many as can be planned."""
+    """The month of each number, None where not all can be planned.
+
+    Months in which none is waiting are leapt over, as there may be a thousand of them.
+    """
+    coming = sorted([(first, number) for number, (first, _) in spans.items()], reverse=True)
+    waiting = []
     months = {}
-    for month in range(MONTHS):
-        waiting = sorted([
-            (spans[number][1], number) for number in spans
-            if number not in months and spans[number][0] <= month <= spans[number][1]])
-        for _, number in waiting[:rate]:
+    month = 0
+    while len(coming) > 0 or len(waiting) > 0:
+        if len(waiting) == 0:
+            month = max(month, coming[-1][0])
+        while len(coming) > 0 and coming[-1][0] <= month:
+            _, number = coming.pop()
+            heappush(waiting, (spans[number][1], number))
+        for _ in range(min(rate, len(waiting))):
+            last, number = heappop(waiting)
+            if last < month:
+                return None
             months[number] = month
+        month += 1
     return months
 
 
 def _least_crowd(spans, rate):
-    """The least stretch that is overfull, and how many spans lie within it, or None.
+    """The least stretch that is overfull, and how many spans lie within it; there must be one.
 
-    Where no span ends with a stretch, a shorter one has as many; and a stretch of more
-    months than this has room for all spans: so no other ones need to be looked at.
+    It ends where a span ends, as else a shorter one has as many. The spans up to each end are
+    gone through from the one that begins last: those so far overfill at most as many months
+    as the others fill, and the longest such stretch is overfull if they all lie within it.
     """
-    longest = (len(spans) - 1) // rate
-    stretches = [
-        (last - months + 1, last) for _, last in spans.values()
-        for months in range(1, longest + 1) if months <= last + 1]
-    overfull = [stretch for stretch in stretches if _is_overfull(spans, stretch, rate)]
-    if len(overfull) == 0:
-        return None
-    first, last = min(overfull)
+    begun_last = sorted(list(spans.values()), reverse=True)
+    stretches = []
+    for last in sorted({end for _, end in begun_last}):
+        others = 0
+        for begin, end in begun_last:
+            if end <= last:
+                first = max(0, last + 1 - others // rate)
+                if first <= begin:
+                    stretches.append((first, last))
+                others += 1
+    first, last = min(stretches)
     return first, last, _how_many_within(spans, (first, last))
 
 

@@ -169,6 +169,40 @@ class Held(Looked):
             self.assertFalse(self.hold(spans, 1, range(1000)))
         self.assertTrue(self.hold({number: (0, 999) for number in range(28, 40)}, 1, range(1000)))
 
+    def test_none_at_all(self):
+        for rate in range(1, 5):
+            self.assertTrue(self.hold({}, rate, range(1000)))
+
+    def test_far_from_one_another(self):
+        """Month by month from 0 on, be there hundreds of months between two spans in which nothing waits."""
+        for spans in (
+                {3: (0, 0), 4: (999, 999)}, {4: (0, 0), 3: (999, 999)}, {7: (0, 999), 8: (999, 999), 9: (0, 0)},
+                {1: (0, 2), 2: (0, 0), 3: (500, 500), 4: (499, 500), 5: (997, 999), 6: (998, 999), 7: (999, 999)},
+                {1: (0, 999), 2: (0, 998), 3: (1, 1), 4: (998, 999), 5: (998, 999), 6: (400, 400)}):
+            for rate in (1, 2):
+                self.assertTrue(self.hold(spans, rate, range(1000)))
+        for spans in (
+                {1: (0, 0), 2: (0, 0), 3: (999, 999), 4: (999, 999)}, {1: (0, 0), 2: (999, 999), 3: (999, 999)},
+                {1: (0, 5), 2: (500, 500), 3: (500, 500), 4: (500, 501), 5: (999, 999)}):
+            self.assertFalse(self.hold(spans, 1, range(1000)))
+
+    def test_some_spans_early_and_some_late(self):
+        chance = random.Random(11)
+        made = []
+        for _ in range(30):
+            spans = {}
+            for months in (range(4), range(498, 502), range(996, 1000)):
+                spans.update(some_spans(chance, chance.randrange(5), months, 4))
+            made.append(self.hold(spans, chance.randrange(1, 3), range(1000)))
+        self.assertEqual({True, False}, set(made))
+
+    def test_twelve_in_the_last_twelve_months(self):
+        for rate in range(1, 5):
+            spans = {number: (988, 999) for number in range(12)}
+            self.assertTrue(self.hold(spans, rate, range(1000)))
+            spans[11] = spans[10] = spans[9] = spans[8] = spans[7] = (990, 990)
+            self.assertFalse(self.hold(spans, rate, range(1000)))
+
     def test_where_none_is_told_no_months_at_all_make_a_plan(self):
         chance = random.Random(10)
         made = []

@@ -146,6 +146,17 @@ class Put(Looked):
         self.assert_same(str(of_three().put(span=(3, 3), number=5)), "3: 0\n5: 3\n9: 2")
         self.refused(NoNumber, of_three().put, span=None, number=None)
 
+    def test_far_from_all_others(self):
+        plan = Plan({3: (0, 0)})
+        plan = self.assert_put("3: 0\n4: 999", plan, 4, (999, 999))
+        plan = self.assert_put("3: 0\n4: 999\n5: 1", plan, 5, (0, 999))
+        plan = self.assert_put("3: 0\n4: 999\n5: 1\n6: 500", plan, 6, (500, 501))
+        plan = self.assert_put("3: 999\n4: 0\n5: 1\n6: 500", plan.put(3, (998, 998)).put(4, (0, 0)), 3, (999, 999))
+        self.refused_with(Crowded, {"first": 999, "last": 999, "many": 2}, plan.put, 7, (999, 999))
+        self.refused_with(Crowded, {"first": 0, "last": 0, "many": 2}, plan.put, 7, (0, 0))
+        self.assert_put("0: 0", Plan({}), 0, (0, 999))
+        self.assert_put("0: 999", Plan({}), 0, (999, 999))
+
     def test_rows_of_spans_put(self):
         """Each plan is just the one that is made of all spans then, or is refused likewise."""
         chance = random.Random(41)
