@@ -1,7 +1,5 @@
 """Drinkers' notes, and the order of makers that is nearest to all of them."""
 
-from itertools import permutations
-
 from dimcellar.checks import is_maker
 from dimcellar.errors import NoNotes, NoOrder
 
@@ -20,9 +18,14 @@ def turns_of(notes, order):
 def nearest(notes):
     """The fewest turns, and the least order that has no more."""
     _check_notes(notes)
-    ahead = _ahead(notes)
     makers = _makers_of(notes)
-    return min([(_turns(ahead, order), order) for order in permutations(makers)])
+    ahead = _ahead(notes)
+    firsts = [(maker, 1 << at, _turns_ahead(maker, makers, ahead)) for at, maker in enumerate(makers)]
+    orders = [(0, ())]
+    # What is left of a group is a lesser number: so its nearest order is told by then.
+    for group in range(1, 1 << len(makers)):
+        orders.append(min(_orders_of(group, firsts, orders)))
+    return orders[-1]
 
 
 def floor_of(notes):
@@ -80,3 +83,30 @@ def _ahead(notes):
 
 def _turns(ahead, order):
     return sum([ahead.get((behind, first), 0) for first, behind in _pairs(order)])
+
+
+def _turns_ahead(maker, makers, ahead):
+    """How often a maker is turned that stands ahead of a group of others, group by group.
+
+    A group is a number that has a bit for each maker of it.
+    """
+    turns = [0]
+    for other in makers:
+        more = ahead.get((other, maker), 0)
+        turns = turns + [many + more for many in turns]
+    return turns
+
+
+def _orders_of(group, firsts, orders):
+    """The turns and the order of a group, by each maker that may be its first one.
+
+    How often that one is turned doesn't hang on the order behind it: so this is the nearest
+    of the others, which is told already.
+    """
+    told = []
+    for maker, bit, turns in firsts:
+        if group & bit:
+            others = group - bit
+            many, order = orders[others]
+            told.append((turns[others] + many, (maker, *order)))
+    return told

@@ -140,6 +140,27 @@ class Nearest(Looked):
             above += floor_of(notes) < wanted[0]
         self.assertGreater(above, 5)
 
+    def test_six_makers_that_nobody_agrees_on(self):
+        notes = [("a", "b", "c", "d", "e", "f"), ("f", "e", "d", "c", "b", "a"), ("b", "a", "d", "c", "f", "e"),
+                 ("c", "a", "e", "b", "f", "d"), ("d", "f", "a", "e", "b", "c"), ("e", "c", "f", "a", "d", "b")]
+        for start in range(6):
+            self.assert_same(nearest(notes[start:] + notes[:start]), nearest_plainly(notes))
+            self.assert_same(nearest(notes[start:]), nearest_plainly(notes[start:]))
+
+    def test_of_many_orders_with_equal_turns_the_least(self):
+        chance = random.Random(63)
+        alike = []
+        for size in range(2, 7):
+            for _ in range(12):
+                makers = chance.sample(SIX, size)
+                notes = [tuple(chance.sample(makers, 2)) for _ in range(chance.randrange(1, 4))]
+                notes += [tuple(makers), tuple(makers[::-1])] * chance.randrange(2)
+                wanted = nearest_plainly(notes)
+                self.assert_same(nearest(notes), wanted)
+                orders = list(itertools.permutations(makers_of(notes)))
+                alike.append(sum(turns_plainly(notes, order) == wanted[0] for order in orders) > 1)
+        self.assertGreater(alike.count(True), 30)
+
     def test_no_order_is_nearer_and_none_is_below_the_floor(self):
         chance = random.Random(62)
         for size in range(2, 6):
