@@ -127,7 +127,7 @@ def _longer(begun, choice, ahead, beside):
     longer = {}
     for (placed, last), (many, seen) in begun.items():
         for bit in choice:
-            if placed & bit or ahead[bit] & placed != ahead[bit] or beside[bit] & placed not in (0, last):
+            if placed & bit or (ahead[bit] & placed) != ahead[bit] or (beside[bit] & placed) not in (0, last):
                 continue
             now = placed | bit, bit if beside[bit] else 0
             others, others_seen = longer.get(now, (0, 0))

@@ -14,7 +14,7 @@ TEXT = "ann 1999\n\nzoe 1900 37\n \t\nabcdefgh 2100 150\na 2000 75"
 TOLD = [("ann", 1999, 75), ("zoe", 1900, 37), ("abcdefgh", 2100, 150), ("a", 2000, 75)]
 # Lines that are none, each in one thing.
 NO_LINES = (
-    "ann", "1999", "ann 1999 75 0", "ann 1999 75 75", "1999 ann", "75 1999 ann", "ann zoe", "ann zoe 1999", "ann 75",
+    "ann", "1999", "x", "x ", "\tx", "0", "-", "ann 1999 75 0", "ann 1999 75 75", "1999 ann", "75 1999 ann", "ann zoe", "ann zoe 1999", "ann 75",
     "ann 75 1999", "ann 1999 ann", "ann  1999", "ann 1999  75", " ann 1999", "ann 1999 ", "ann 1999 75 ", "ann\t1999",
     "ann 1999\t75", "\tann 1999", "ann 1999\t", "ann 1999 \t", "ann \t1999", "ann 01999", "ann 1999 075",
     "ann 1999 037", "ann 0", "ann 1999 0", "ann +1999", "ann -1999", "ann 1999 +75", "ann 1999 -75", "ann 1_999",
