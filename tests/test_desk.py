@@ -173,7 +173,8 @@ class RefusedByTheCellar(Asked):
         self.refused(NoDeed, desk.say, "undo")
 
     def test_makers_that_are_none(self):
-        for maker in ("Ann", "abcdefghi", "an-n", "-", "7", "1999", "an\tn", "\t", "\n", "ann\n", "\nann", "~", "'ann'"):
+        for maker in ("Ann", "abcdefghi", "an-n", "-", "7", "1999", "an\tn", "\t", "\n", "ann\n", "\nann", "~",
+                      "'ann'"):
             self.assert_refused(NoMaker, f"lay {maker} 1999 75 0 1")
             self.assert_refused(NoMaker, f"lay {maker} 1899 50 9 9")
 

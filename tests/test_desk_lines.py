@@ -51,8 +51,9 @@ class NoLines(Lines):
     def test_words_that_are_no_first_ones(self):
         self.refuse_all([
             "counts", "Count", "COUNT", "count\n", "\tcount", "count\t", "cou nt", "c", "len", "row 0 0", "smash 0 1",
-            "bind 0 1", "drink_set 0 1 -", "loosen 0", "place 0", "became 0", "counts", "bottle 0", "twin", "rooms_with",
-            "set_of 0", "say count", "ann", "0", "-", "ok", "none", "here", "lie ann 1999 75 0 0", "Lay ann 1999 75 0 0",
+            "bind 0 1", "drink_set 0 1 -", "loosen 0", "place 0", "became 0", "bottle 0", "twin", "rooms_with",
+            "set_of 0", "say count", "ann", "0", "-", "ok", "none", "here", "lie ann 1999 75 0 0",
+            "Lay ann 1999 75 0 0",
             "undo 0", "count 0", "all 0", "undo undo", "count all", "lay", "move", "drink", "give", "break", "shelf",
             "fate", "twins"])
 
@@ -94,8 +95,8 @@ class NoLines(Lines):
 
     def test_somebodies_that_are_no_small_letters(self):
         wrong = []
-        for who in ("Ann", "ANN", "ann1", "0", "1", "--", "-ann", "ann-", "an-n", "ann\n", "\n", "\t", "a\tb", "''", "_",
-                    "ann,", "~", "a" * 9 + "A", "."):
+        for who in ("Ann", "ANN", "ann1", "0", "1", "--", "-ann", "ann-", "an-n", "ann\n", "\n", "\t", "a\tb", "''",
+                    "_", "ann,", "~", "a" * 9 + "A", "."):
             wrong += [f"drink 0 1 {who}", f"give 0 1 {who}", f"drink 9 1000 {who}", f"give 1 1 {who}"]
         self.refuse_all(wrong + ["drink 0 1 ", "give 0 1 ", "drink 0 1", "give 0 1", "break 0 1 ann", "break 0 1 -"])
 

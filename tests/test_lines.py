@@ -14,7 +14,8 @@ TEXT = "ann 1999\n\nzoe 1900 37\n \t\nabcdefgh 2100 150\na 2000 75"
 TOLD = [("ann", 1999, 75), ("zoe", 1900, 37), ("abcdefgh", 2100, 150), ("a", 2000, 75)]
 # Lines that are none, each in one thing.
 NO_LINES = (
-    "ann", "1999", "x", "x ", "\tx", "0", "-", "ann 1999 75 0", "ann 1999 75 75", "1999 ann", "75 1999 ann", "ann zoe", "ann zoe 1999", "ann 75",
+    "ann", "1999", "x", "x ", "\tx", "0", "-", "ann 1999 75 0", "ann 1999 75 75", "1999 ann",
+    "75 1999 ann", "ann zoe", "ann zoe 1999", "ann 75",
     "ann 75 1999", "ann 1999 ann", "ann  1999", "ann 1999  75", " ann 1999", "ann 1999 ", "ann 1999 75 ", "ann\t1999",
     "ann 1999\t75", "\tann 1999", "ann 1999\t", "ann 1999 \t", "ann \t1999", "ann 01999", "ann 1999 075",
     "ann 1999 037", "ann 0", "ann 1999 0", "ann +1999", "ann -1999", "ann 1999 +75", "ann 1999 -75", "ann 1_999",
@@ -22,7 +23,8 @@ NO_LINES = (
     "ann 1899", "ann 2101", "ann 199", "ann 19999", "ann 1899 75", "ann 2101 37", "ann 1999 1", "ann 1999 36",
     "ann 1999 38", "ann 1999 74", "ann 1999 76", "ann 1999 149", "ann 1999 151", "ann 1999 750", "ann 1999 7",
     "abcdefghi 1999", "abcdefghi 1999 75", "Ann 1999", "aNn 1999", "ann1 1999", "an-n 1999", "'ann' 1999", "- 1999",
-    "ann, 1999", "ann: 1999", "Bottle('ann', 1999, 75)", "ann 1999 None", "ann None", "# ann 1999", "~", ".", "ann;1999",
+    "ann, 1999", "ann: 1999", "Bottle('ann', 1999, 75)", "ann 1999 None", "ann None", "# ann 1999", "~", ".",
+    "ann;1999",
     "ann " + "9" * 40, "ann " + "9" * 41, "ann 1999 " + "7" * 40, "ann 1999 " + "7" * 1900, "ann " + "1" * 1900,
     "a" * 1900 + " 1999", "ann 1999" + "0" * 40, "ann 1999 75" + "0" * 40, "ann 1999 " + "0" * 40 + "75")
 
@@ -128,8 +130,10 @@ class Read(Looked):
                 lines.insert(chance.randrange(len(lines) + 1), empty)
             self.assert_read(told, "\n".join(lines))
         for empty in ("", " ", "\t", " \t ", "\t\t", " " * 900):
-            for text in (f"{empty}\nann 1999\nzoe 1900", f"ann 1999\n{empty}\nzoe 1900", f"ann 1999\nzoe 1900\n{empty}"):
-                self.assert_read([("ann", 1999, 75), ("zoe", 1900, 75)], text)
+            for at in range(3):
+                lines = ["ann 1999", "zoe 1900"]
+                lines.insert(at, empty)
+                self.assert_read([("ann", 1999, 75), ("zoe", 1900, 75)], "\n".join(lines))
 
     def test_the_size_of_lines_that_have_none(self):
         text = "ann 1999\nann 1999 37\nann 1999 75\nann 1999 150"

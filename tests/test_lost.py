@@ -129,7 +129,8 @@ class Told(Looked):
     def test_of_nothing_lost(self):
         self.assert_told((7,), (), [], 1, (7,))
         self.assert_told((39, 0, 7), (), [], 1, (39, 0, 7))
-        self.assert_told((39, 0, 7), (), [("at", 39, 0), ("not", 7, 1), ("ahead", 0, 7), ("beside", 0, 39)], 1, (39, 0, 7))
+        hints = [("at", 39, 0), ("not", 7, 1), ("ahead", 0, 7), ("beside", 0, 39)]
+        self.assert_told((39, 0, 7), (), hints, 1, (39, 0, 7))
 
     def test_at(self):
         self.assert_told(KNOWN, LOST, [("at", 11, 0)], 2, (11, 5, None, None))
